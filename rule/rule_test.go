@@ -603,12 +603,33 @@ func TestNewOfWhatMayNotBe(t *testing.T) {
 	}
 	for _, n := range []int{-1, 8, 9, 256, 1 << 32, math.MinInt, math.MaxInt} {
 		wantNone(t, api.ErrArg, false, n)
-		wantNone(t, api.ErrArg, true, n)
 		wantNone(t, api.ErrArg, false, n, anyTold())
 	}
-	for n := 1; n < 8; n++ {
-		wantNone(t, api.ErrArg, true, n)
-		wantNone(t, api.ErrArg, true, n, anyTold())
+}
+
+// What denies others has no class to be told: whatever is handed in as one, it
+// is the same classifier; and that does not help what is refused for its rules.
+func TestNewThatDeniesOthersOfAnyClass(t *testing.T) {
+	mixed, some := rules(200)[100:], slices.Concat(keys(), wrongKeys())
+	for i, class := range []int{-1, 0, 1, 2, 3, 4, 5, 6, 7, 8, 9, 256, 1 << 32, math.MinInt, math.MaxInt} {
+		for _, l := range [][]rule.Rule{nil, {asking(proto(17), ofClass(3))}, mixed[i : i+16]} {
+			wantClasses(t, true, class, l, keys())
+			c, d := made(t, true, class, l...), made(t, true, 0, l...)
+			for _, k := range some {
+				n, e := c.Class(k)
+				if m, f := d.Class(k); n != m || e != f || c.Which(k) != d.Which(k) {
+					t.Fatalf("class %d, %d rules, %+v: %d, error %d, not %d, error %d", class, len(l), k, n, int(e), m, int(f))
+				}
+			}
+			if !slices.Equal(c.Hits(), d.Hits()) || !slices.Equal(c.Dead(), d.Dead()) {
+				t.Errorf("class %d, %d rules: %v, %v", class, len(l), c.Hits(), c.Dead())
+			}
+		}
+		for _, wrong := range wrongRules() {
+			wantNone(t, api.ErrArg, true, class, wrong)
+			wantNone(t, api.ErrArg, true, class, anyTold(), wrong)
+		}
+		wantNone(t, api.ErrLimit, true, class, slices.Repeat([]rule.Rule{anyTold()}, 65)...)
 	}
 }
 
