@@ -23,9 +23,10 @@ type told struct {
 
 func newTold(size int) *told { return &told{durable: make([]byte, size)} }
 
-// has tells whether each of n bytes from at on is a byte of the disk.
+// has tells whether n bytes from at on begin at a place of the disk, or at its
+// end, and each one is a byte of the disk.
 func (w *told) has(at, n int) bool {
-	if at < 0 || n < 0 {
+	if at < 0 || at > len(w.durable) || n < 0 {
 		return false
 	}
 	for i := range n {
@@ -244,8 +245,8 @@ func TestSizesThatMayBe(t *testing.T) {
 	}
 }
 
-// TestPlaces reads and writes at each place of small disks, and at those far
-// beyond. No bytes lie on the disk wherever they begin.
+// TestPlaces reads and writes at each place of small disks, at those just
+// beyond, and at those far beyond.
 func TestPlaces(t *testing.T) {
 	far := []int{math.MinInt, math.MinInt + 1, math.MaxInt - 9, math.MaxInt - 1, math.MaxInt}
 	near := []int{-9, -2, -1, 0, 1, 2, 3, 4, 5, 6, 7, 9}
@@ -350,12 +351,13 @@ func TestWritesOfNothing(t *testing.T) {
 	d := made(t, 4)
 	row := []byte{1, 2}
 	for _, b := range [][]byte{nil, {}, row[:0], row[2:]} {
-		write(t, d, 0, b...)
-		write(t, d, 4, b...)
-		write(t, d, 5, b...)
-		write(t, d, math.MaxInt, b...)
-		if e := d.Write(-1, b); e != api.ErrDisk {
-			t.Errorf("Write(-1) of nothing: %v", e)
+		for at := range 5 {
+			write(t, d, at, b...)
+		}
+		for _, at := range []int{math.MinInt, -1, 5, 6, mostBytes, mostBytes + 1, math.MaxInt} {
+			if e := d.Write(at, b); e != api.ErrDisk {
+				t.Errorf("Write(%d) of nothing: %v", at, e)
+			}
 		}
 	}
 	write(t, d, 1, 7)
@@ -370,6 +372,47 @@ func TestWritesOfNothing(t *testing.T) {
 	reads(t, d, 0, []byte{0, 0, 8, 0}, []byte{0, 0, 8, 0})
 }
 
+// TestNothingAtTheEnd: no bytes begin at the disk's end, at latest, whatever its
+// size is, and whatever was written.
+func TestNothingAtTheEnd(t *testing.T) {
+	for _, size := range []int{0, 1, 2, 8, 300, mostBytes} {
+		for _, written := range []int{0, size} {
+			d := made(t, size)
+			write(t, d, 0, make([]byte, written)...)
+			for _, c := range []struct {
+				at   int
+				want api.Errno
+			}{
+				{0, api.OK}, {size / 2, api.OK}, {size, api.OK}, {size + 1, api.ErrDisk}, {size + 2, api.ErrDisk},
+				{2*size + 1, api.ErrDisk}, {math.MaxInt - 1, api.ErrDisk}, {math.MaxInt, api.ErrDisk},
+				{-1, api.ErrDisk}, {-size - 1, api.ErrDisk}, {math.MinInt, api.ErrDisk},
+			} {
+				nothing(t, d, c.at, c.want)
+			}
+		}
+	}
+}
+
+// nothing asks for no bytes at a place.
+func nothing(t *testing.T, d *disk.Disk, at int, want api.Errno) {
+	t.Helper()
+	before := d.Copy()
+	for _, b := range [][]byte{nil, {}} {
+		if e := d.Write(at, b); e != want {
+			t.Errorf("of %d bytes Write(%d, nothing): %v, not %v", d.Size(), at, e, want)
+		}
+	}
+	if b, e := d.Read(at, 0); e != want || len(b) != 0 {
+		t.Errorf("of %d bytes Read(%d, 0): %v, %v, not %v", d.Size(), at, b, e, want)
+	}
+	if b, e := d.Durable(at, 0); e != want || len(b) != 0 {
+		t.Errorf("of %d bytes Durable(%d, 0): %v, %v, not %v", d.Size(), at, b, e, want)
+	}
+	if !disk.Same(d, before) {
+		t.Errorf("no bytes at %d changed the disk", at)
+	}
+}
+
 // TestErrorsChangeNothing: what was refused is no write.
 func TestErrorsChangeNothing(t *testing.T) {
 	d, w := wrote(t), newTold(8)
@@ -378,7 +421,7 @@ func TestErrorsChangeNothing(t *testing.T) {
 	w.write(1, []byte{3, 4, 5})
 	before := d.Copy()
 	for _, c := range []struct{ at, n int }{
-		{-1, 1}, {-1, 3}, {0, 9}, {1, 8}, {7, 2}, {8, 1}, {9, 1}, {math.MinInt, 1}, {math.MinInt, 9}, {math.MaxInt, 1}, {math.MaxInt, 9},
+		{-1, 0}, {9, 0}, {math.MaxInt, 0}, {-1, 1}, {-1, 3}, {0, 9}, {1, 8}, {7, 2}, {8, 1}, {9, 1}, {math.MinInt, 1}, {math.MinInt, 9}, {math.MaxInt, 1}, {math.MaxInt, 9},
 	} {
 		put(t, d, w, c.at, bytes.Repeat([]byte{9}, c.n))
 		d.Read(c.at, c.n)
@@ -589,7 +632,7 @@ func TestSame(t *testing.T) {
 	if !disk.Same(of(4, write(0, 0), sync), of(4)) || !disk.Same(of(4, write(2, 1), write(2, 3), sync), of(4, write(2, 3), sync)) {
 		t.Error("it hangs on what was written ahead of a sync")
 	}
-	if !disk.Same(of(4, write(9, 1), write(0)), of(4)) {
+	if !disk.Same(of(4, write(9, 1), write(0), write(9)), of(4)) {
 		t.Error("it hangs on what was no write")
 	}
 	for _, d := range a {
@@ -665,6 +708,7 @@ func TestDiskMadeByHand(t *testing.T) {
 	d, w := new(disk.Disk), newTold(0)
 	put(t, d, w, 0, []byte{1})
 	put(t, d, w, 0, nil)
+	put(t, d, w, 1, nil)
 	same(t, d, w)
 	sync(t, d)
 	crash(t, d, w, []disk.Fate{{Kind: disk.Kept}})
